@@ -1,0 +1,40 @@
+"""The calls on one new house, read from one list of whole numbers."""
+
+from firstbadyard.house import House
+
+BEGINS = 0
+CHANGE = 1
+FOUND = 2
+
+# By a call's number: how many numbers it has, itself and its row's count among them, the row not.
+NUMBERS_OF_CALL = {0: 1, 1: 5, 2: 3, 3: 1}
+
+
+def answers(calls):
+    house = House()
+    answered = []
+    start = 0
+    while start < len(calls):
+        end = end_of_call(calls, start)
+        answer = answer_of_call(house, calls[start:end])
+        answered.append(len(answer))
+        answered.extend(answer)
+        start = end
+    return answered
+
+
+def end_of_call(calls, start):
+    end = start + NUMBERS_OF_CALL[calls[start]]
+    if calls[start] == CHANGE:
+        return end + calls[end - 1]
+    return end
+
+
+def answer_of_call(house, call):
+    if call[0] == BEGINS:
+        return house.begins()
+    if call[0] == CHANGE:
+        return house.change(call[1], call[2], call[3], call[5:])
+    if call[0] == FOUND:
+        return house.found(call[1], call[2])
+    return house.left()
