@@ -1,1 +1,1 @@
-"""The first bad change: which changes can be the one that broke it."""
+"""The first bad change: which can be the one that broke it, and which is to be tried next."""

@@ -1,4 +1,7 @@
-"""One house: its changes, and which of them can still be the one that broke it."""
+"""One house: its changes, which of them can still be the one that broke it, and what is to be tried."""
+
+from firstbadyard.ways import AT_WORST, ON_THE_AVERAGE, best_way, halving_way, left_after
+from firstbadyard.ways import way_in_numbers, weights_together
 
 MOST_CHANGES = 7
 LARGEST_COST = 10000
@@ -14,6 +17,10 @@ NO_MORE_ROOM = -7
 
 def numbers_in_range(cost, weight, tried):
     return 1 <= cost <= LARGEST_COST and weight <= LARGEST_WEIGHT and tried <= 1
+
+
+def is_kind(kind):
+    return kind == AT_WORST or kind == ON_THE_AVERAGE
 
 
 class Change:
@@ -54,7 +61,7 @@ class House:
             return [NO_SUCH_CHANGE]
         if not self.told[c].can_be_tried:
             return [CANNOT_BE_TRIED]
-        left_then = self.left_after(c, bad != 0)
+        left_then = left_after(self.told, self.still_left, c, bad != 0)
         if len(left_then) == 0:
             return [NONE_WOULD_BE_LEFT]
         self.still_left = left_then
@@ -62,8 +69,34 @@ class House:
         return [len(left_then)] + left_then
 
     def left(self):
-        weights_together = sum([self.told[one].weight for one in self.still_left])
-        return [len(self.still_left)] + self.still_left + [weights_together]
+        weights = weights_together(self.told, self.still_left)
+        return [len(self.still_left)] + self.still_left + [weights]
+
+    def best(self, kind):
+        if not is_kind(kind):
+            return [NOT_IN_RANGE]
+        way = best_way(self.told, self.still_left, kind)
+        if way.tries is None:
+            return [0]
+        return [1, way.tries, way.costs[kind]]
+
+    def way(self, kind):
+        if not is_kind(kind):
+            return [NOT_IN_RANGE]
+        way = best_way(self.told, self.still_left, kind)
+        return [way.costs[kind]] + way_in_numbers(way)
+
+    def half(self):
+        way = halving_way(self.told, self.still_left)
+        if way.tries is None:
+            return [0]
+        return [1, way.tries, way.costs[AT_WORST], way.costs[ON_THE_AVERAGE]]
+
+    def upon(self, c):
+        if not self.is_told(c):
+            return [NO_SUCH_CHANGE]
+        made_upon = self.told[c].made_upon
+        return [len(made_upon)] + made_upon
 
     def refusal_of_change(self, cost, weight, tried, parents):
         # The order is the document's: of several refusals the one told first is answered.
@@ -86,8 +119,3 @@ class House:
 
     def some_made_upon(self, changes, one):
         return any([one in self.told[c].made_upon for c in changes])
-
-    def left_after(self, c, is_bad):
-        """Those left for which a try of c would tell what is_bad says."""
-        made_upon = self.told[c].made_upon
-        return [one for one in self.still_left if (one in made_upon) == is_bad]

@@ -5,9 +5,13 @@ from firstbadyard.house import House
 BEGINS = 0
 CHANGE = 1
 FOUND = 2
+LEFT = 3
+BEST = 4
+WAY = 5
+HALF = 6
 
 # By a call's number: how many numbers it has, itself and its row's count among them, the row not.
-NUMBERS_OF_CALL = {0: 1, 1: 5, 2: 3, 3: 1}
+NUMBERS_OF_CALL = {0: 1, 1: 5, 2: 3, 3: 1, 4: 2, 5: 2, 6: 1, 7: 2}
 
 
 def answers(calls):
@@ -37,4 +41,12 @@ def answer_of_call(house, call):
         return house.change(call[1], call[2], call[3], call[5:])
     if call[0] == FOUND:
         return house.found(call[1], call[2])
-    return house.left()
+    if call[0] == LEFT:
+        return house.left()
+    if call[0] == BEST:
+        return house.best(call[1])
+    if call[0] == WAY:
+        return house.way(call[1])
+    if call[0] == HALF:
+        return house.half()
+    return house.upon(call[1])

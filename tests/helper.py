@@ -3,6 +3,8 @@
 from firstbadyard.trying import answers
 
 LARGEST = 4294967295
+AT_WORST = 0
+ON_THE_AVERAGE = 1
 
 
 def begins():
@@ -23,6 +25,22 @@ def found(c, bad):
 
 def left():
     return [3]
+
+
+def best(kind):
+    return [4, kind]
+
+
+def way(kind):
+    return [5, kind]
+
+
+def half():
+    return [6]
+
+
+def upon(c):
+    return [7, c]
 
 
 def joined(calls):

@@ -49,6 +49,11 @@ def stored_names(tree):
     return names
 
 
+def names_of_the_top(tree):
+    defined = [node.name for node in tree.body if isinstance(node, (ast.FunctionDef, ast.ClassDef))]
+    return defined + [node.targets[0].id for node in tree.body if isinstance(node, ast.Assign)]
+
+
 class Language(unittest.TestCase):
     def test_files(self):
         self.assertIn("__init__.py", [path.name for path in FILES])
@@ -120,5 +125,33 @@ class Language(unittest.TestCase):
                 if isinstance(sign, (ast.Is, ast.IsNot)):
                     self.assertIn(ast.unparse(right), ["None", "True", "False"], (name, node.lineno))
 
-    def test_sets_stand_nowhere_yet(self):
+    def test_imported_names_are_defined_in_the_very_file(self):
+        bound = {name: names_of_the_top(tree) for name, tree in trees()}
+        for name, node in walked(ast.ImportFrom):
+            for one in node.names:
+                self.assertIn(one.name, bound[node.module.split(".")[1] + ".py"], name)
+
+    def test_no_two_files_draw_from_one_another(self):
+        drawn = [(name[:-3], node.module.split(".")[1]) for name, node in walked(ast.ImportFrom)]
+        left = sorted(set(name for pair in drawn for name in pair))
+        while left:
+            ends = [name for name in left if not any(pair[0] == name and pair[1] in left for pair in drawn)]
+            self.assertNotEqual(ends, [], left)
+            left = [name for name in left if name not in ends]
+
+    def test_keywords(self):
+        allowed = {"sorted": {"key", "reverse"}, "min": {"key", "default"}, "max": {"key", "default"}}
+        for name, node in walked(ast.Call):
+            for given in node.keywords:
+                self.assertIn(given.arg, allowed.get(ast.unparse(node.func), ()), (name, node.lineno))
+
+    def test_names_of_python_are_called_not_kept(self):
+        for name, tree in trees():
+            called = [node.func for node in ast.walk(tree) if isinstance(node, ast.Call)]
+            for node in ast.walk(tree):
+                if isinstance(node, ast.Name) and node.id in OWN_NAMES:
+                    self.assertIn(node, called, (name, node.lineno))
+
+    def test_sets_stand_nowhere(self):
         self.assertEqual(walked(ast.Set), [])
+        self.assertEqual([node for name, node in walked(ast.Name) if node.id in ("set", "frozenset")], [])
